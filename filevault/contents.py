@@ -1,4 +1,4 @@
-"""The small sectors, and the chains in which files lie."""
+"""The small sectors, and what lies in the chains of files."""
 
 from filevault.chains import Places, follow, hold_rest_free
 from filevault.directory import FILE
@@ -15,9 +15,15 @@ def follow_sized(places, table, first, length):
     return chain
 
 
-def hold_small_sectors(root, places, table):
+def read_sized(file, entry, places, table):
+    chain = follow_sized(places, table, entry.begins_at, units_needed(entry.size, SECTOR_SIZE))
+    return content_of(file, chain)[:entry.size]
+
+
+def read_small_sectors(file, root, places, table):
     hold(root.size % SMALL_SIZE == 0, "whole small sectors")
-    follow_sized(places, table, root.begins_at, units_needed(root.size, SECTOR_SIZE))
+    content = read_sized(file, root, places, table)
+    return [content[at:at + SMALL_SIZE] for at in range(0, len(content), SMALL_SIZE)]
 
 
 def read_small_table(file, head, places, table, count):
@@ -28,14 +34,24 @@ def read_small_table(file, head, places, table, count):
     return small_table
 
 
-def hold_contents(file, head, entries, places, table):
-    hold_small_sectors(entries[0], places, table)
-    small_places = Places(entries[0].size // SMALL_SIZE)
-    small_table = read_small_table(file, head, places, table, len(small_places.taken))
-    for entry in entries:
+def read_small(small_sectors, entry, small_places, small_table):
+    content = []
+    for number in follow_sized(small_places, small_table, entry.begins_at, units_needed(entry.size, SMALL_SIZE)):
+        content.extend(small_sectors[number])
+    return content[:entry.size]
+
+
+# Gives each file's bytes by its entry's number.
+def read_contents(file, head, entries, places, table):
+    small_sectors = read_small_sectors(file, entries[0], places, table)
+    small_places = Places(len(small_sectors))
+    small_table = read_small_table(file, head, places, table, len(small_sectors))
+    contents = {}
+    for number, entry in enumerate(entries):
         if entry is not None and entry.kind == FILE:
             if entry.size < LEAST_LONG:
-                follow_sized(small_places, small_table, entry.begins_at, units_needed(entry.size, SMALL_SIZE))
+                contents[number] = read_small(small_sectors, entry, small_places, small_table)
             else:
-                follow_sized(places, table, entry.begins_at, units_needed(entry.size, SECTOR_SIZE))
+                contents[number] = read_sized(file, entry, places, table)
     hold_rest_free(small_places, small_table)
+    return contents

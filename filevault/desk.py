@@ -1,11 +1,13 @@
 """The interface: a list of calls, written as whole numbers, and the list of their answers."""
 
-from filevault.faults import NotAStore, NothingHeld, NotThere, NotWritten
+from filevault.faults import NotAStore, NothingHeld, NotThere
 from filevault.holder import Holder
 
 BEGIN_CALL = 0
 OPEN_CALL = 1
 FIND_CALL = 2
+ITEM_CALL = 3
+CHILD_CALL = 4
 # How many numbers stand behind the number of begin, open, find, item, child and read, but for rows.
 PLAIN_NUMBERS = (0, 0, 0, 1, 2, 3)
 
@@ -18,15 +20,22 @@ def end_of_call(calls, at):
     return end
 
 
+def answer_of_store(store, call):
+    if call[0] == FIND_CALL:
+        return [store.find(call[2:])]
+    if call[0] == ITEM_CALL:
+        return store.item(call[1])
+    if call[0] == CHILD_CALL:
+        return [store.child(call[1], call[2])]
+    return store.read(call[1], call[2], call[3])
+
+
 def answer_of(holder, call):
     if call[0] == BEGIN_CALL:
         return [holder.begin()]
     if call[0] == OPEN_CALL:
         return [holder.take_file(call[2:])]
-    if call[0] == FIND_CALL:
-        return [holder.find(call[2:])]
-    holder.held()
-    raise NotWritten("item, child and read of a store are not written yet")
+    return answer_of_store(holder.held(), call)
 
 
 def answer_or_refusal(holder, call):

@@ -13,11 +13,6 @@ class NotThere(Exception):
     pass
 
 
-# Not a refusal: the document gives these calls an answer that the program does not have yet.
-class NotWritten(Exception):
-    pass
-
-
 def hold(is_so, what):
     if not is_so:
         raise NotAStore(what)

@@ -1,11 +1,9 @@
-"""The holder of stores: one store or none, and the calls on it."""
+"""The holder of stores: one store or none."""
 
-from filevault.faults import NothingHeld, NotThere, hold
-from filevault.names import names_in
+from filevault.faults import NothingHeld, hold
 from filevault.store import read_store
 
 MOST_BYTES = 1048576
-MOST_PATH = 4096
 
 
 class Holder:
@@ -25,12 +23,3 @@ class Holder:
         if self.store is None:
             raise NothingHeld("no store")
         return self.store
-
-    def find(self, path):
-        store = self.held()
-        if len(path) > MOST_PATH:
-            raise NotThere("a path of more than 4096 bytes")
-        number = 0
-        for name in names_in(path):
-            number = store.child_alike(number, name)
-        return number

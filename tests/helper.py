@@ -15,6 +15,16 @@ BEGIN = [0]
 LEFT, RIGHT, BELOW, START, SIZE = 68, 72, 76, 116, 120
 
 
+class Watched(list):
+    """A list that nothing may change, not for a while either."""
+
+    def refuse(self, *given):
+        raise AssertionError("what was handed in is changed")
+
+    __setitem__ = __delitem__ = __iadd__ = __imul__ = refuse
+    append = extend = insert = remove = pop = clear = sort = reverse = refuse
+
+
 def opening(file):
     return [1, len(file), *file]
 
@@ -22,6 +32,18 @@ def opening(file):
 def finding(path):
     numbers = path.encode("latin-1") if isinstance(path, str) else path
     return [2, len(numbers), *numbers]
+
+
+def item_of(number):
+    return [3, number]
+
+
+def child_of(number, place):
+    return [4, number, place]
+
+
+def reading(number, at=0, most=1048576):
+    return [5, number, at, most]
 
 
 def ask(*calls, bounds=True):
@@ -114,12 +136,26 @@ def itemized(tree, shape):
     return items, numbers
 
 
+def scattered(items, numbers, total):
+    """The same entries with other numbers, out of the names' order, and entries that are nothing between them."""
+    places = [0] + [1 + place for place in arranged(total - 1, "mixed")]
+    moved = [Item("", 0) for place in range(total)]
+    for entry, place in zip(items, places):
+        entry.left, entry.right, entry.below = [
+            number if number == FREE else places[number] for number in (entry.left, entry.right, entry.below)]
+        moved[place] = entry
+    return moved, {path: places[number] for path, number in numbers.items()}
+
+
 class Image:
     """A store's bytes; tree is pairs of a name and either bytes or pairs of that form again."""
 
     def __init__(self, tree=(), tables=1, lists=0, spare=0, directories=0, small_spare=0, small_tables=0,
-                 shape="balanced", order="plain"):
+                 shape="balanced", order="plain", scatter=False):
         self.items, self.numbers = itemized(tree, shape)
+        if scatter:
+            total = 4 * max(directories, units(len(self.items), 4))
+            self.items, self.numbers = scattered(self.items, self.numbers, total)
         paths = {number: path for path, number in self.numbers.items()}
         self.small_chains = {}
         self.chains = {}

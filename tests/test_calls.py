@@ -3,21 +3,11 @@
 import unittest
 
 from filevault.desk import answers
-from tests.helper import BEGIN, Image, ask, finding, opening
+from tests.helper import BEGIN, Image, Watched, ask, finding, opening
 
 FILE = Image([("a", b"one"), ("folder", [("b", b"two")])]).file
 OTHER = Image([("other", b"three")]).file
 BAD = FILE[:-1]
-
-
-class Watched(list):
-    """A list that nothing may change, not for a while either."""
-
-    def refuse(self, *given):
-        raise AssertionError("what was handed in is changed")
-
-    __setitem__ = __delitem__ = __iadd__ = __imul__ = refuse
-    append = extend = insert = remove = pop = clear = sort = reverse = refuse
 
 
 class Begin(unittest.TestCase):
